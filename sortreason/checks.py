@@ -1,4 +1,4 @@
-"""What names, integers and the two kinds of columns are."""
+"""What names, integers, indices and the two kinds of columns are."""
 
 LETTERS = "abcdefghijklmnopqrstuvwxyz"
 LONGEST = 8
@@ -13,11 +13,21 @@ def is_name(value):
     return all([letter in LETTERS for letter in value])
 
 
+def is_integer(value):
+    """Return whether a value is an integer, which True and False are not."""
+    return isinstance(value, int) and not isinstance(value, bool)
+
+
 def is_between(value, low, high):
     """Return whether a value is an integer within two bounds, both included."""
-    if not isinstance(value, int) or isinstance(value, bool):
+    return is_integer(value) and low <= value <= high
+
+
+def are_indices(value, many):
+    """Return whether a value is a tuple of different indices of so many items, ascending."""
+    if not isinstance(value, tuple) or not all([is_between(at, 0, many - 1) for at in value]):
         return False
-    return low <= value <= high
+    return all([value[at] < value[at + 1] for at in range(len(value) - 1)])
 
 
 def is_kind(value):

@@ -4,6 +4,10 @@ from sortreason.checks import LETTERS, LONGEST, NUMBERS, WORDS, is_between, is_n
 from sortreason.errors import BadKey, BadMeasure
 
 MOST_PARTS = 6
+# The words with which a text names measures that are not the cell itself.
+SIZE = "size"
+REST = "rest"
+ENDING = "ending"
 
 
 class Measure:
@@ -30,6 +34,10 @@ class Measure:
         """Return whether the measure is possible for a column of this kind."""
         return False
 
+    def words(self):
+        """Return the words that name the measure in a text."""
+        raise NotImplementedError("each class of measures has its own")
+
 
 class Plain(Measure):
     """The cell itself."""
@@ -42,6 +50,10 @@ class Plain(Measure):
         """Return True: every cell is a measure."""
         return True
 
+    def words(self):
+        """Return the name alone."""
+        return [self._name]
+
 
 class Size(Measure):
     """The absolute value of a number, or the number of letters of a word."""
@@ -53,6 +65,10 @@ class Size(Measure):
     def fits(self, kind):
         """Return True: every cell has a size."""
         return True
+
+    def words(self):
+        """Return what is measured and the name."""
+        return [SIZE, self._name]
 
 
 class Rest(Measure):
@@ -75,6 +91,10 @@ class Rest(Measure):
         """Return whether the cells are numbers."""
         return kind == NUMBERS
 
+    def words(self):
+        """Return what is measured, the name and the divisor."""
+        return [REST, self._name, str(self._divisor)]
+
 
 class Ending(Measure):
     """The last letter of a word."""
@@ -86,6 +106,10 @@ class Ending(Measure):
     def fits(self, kind):
         """Return whether the cells are words."""
         return kind == WORDS
+
+    def words(self):
+        """Return what is measured and the name."""
+        return [ENDING, self._name]
 
 
 class Part:

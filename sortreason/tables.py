@@ -74,9 +74,17 @@ class Table:
         cells = self._cells(row, key)
         return tuple([part.rank(cell) for part, cell in zip(key.parts, cells)])
 
+    def all_ranks(self, key):
+        """Return the ranks of all rows, row by row."""
+        return [self.ranks(row, key) for row in self._rows]
+
+    def is_possible(self, row):
+        """Return whether a value is a row of a table with these columns."""
+        return _is_row(row, list(self.columns.values()))
+
     def check_row(self, row):
         """Raise BadRow if a row does not fit the columns."""
-        if not _is_row(row, list(self.columns.values())):
+        if not self.is_possible(row):
             raise BadRow("not a row of a table with these columns")
 
     def check_key(self, key):

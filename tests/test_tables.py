@@ -8,7 +8,7 @@ from sortreason import tables
 from sortreason.errors import BadKey, BadRow, BadTable
 from sortreason.keys import Ending, Key, Measure, Part, Plain, Rest, Size
 from sortreason.tables import Ranked, Table
-from support import RefusalCase, strange_values
+from support import RefusalCase, order, strange_values
 
 BOTH = {"year": "numbers", "title": "words"}
 ROWS = [(3, "oak"), (3, "elm"), (5, "ash")]
@@ -17,29 +17,6 @@ WORDS = ["a", "ab", "abc", "b", "ba", "elm", "oak", "oaks", "z", "abcdefgh", "zz
 
 def both():
     return Table(BOTH, ROWS)
-
-
-def measured(part, columns, row):
-    """The measure of a row, worked out apart from the program."""
-    cell = dict(zip(columns, row))[part.measure.name]
-    if isinstance(part.measure, Size):
-        return len(cell) if isinstance(cell, str) else max(cell, -cell)
-    if isinstance(part.measure, Ending):
-        return cell[len(cell) - 1]
-    if isinstance(part.measure, Rest):
-        divisor = [each for each in range(2, 10) if part.measure == Rest(part.measure.name, each)][0]
-        return [rest for rest in range(divisor) if (cell - rest) % divisor == 0][0]
-    return cell
-
-
-def order(columns, one, other, parts):
-    """What `compared` must return, worked out from the words of point [4]."""
-    for part in parts:
-        first, second = measured(part, columns, one), measured(part, columns, other)
-        if first != second:
-            in_order = first > second if part.down else first < second
-            return -1 if in_order else 1
-    return 0
 
 
 class InterfaceTest(unittest.TestCase):
