@@ -1,7 +1,7 @@
 """Which rows may stay as a key sorts a table, where a row belongs, and the sorted rows."""
 
 from sortreason.checks import are_indices
-from sortreason.tables import Ranked, Table, check_table
+from sortreason.tables import Table, check_table
 
 
 class Arrangement:
@@ -47,8 +47,12 @@ def sorted_rows(table, key):
     """Return the table with its rows sorted by a key; rows that it ties keep their order."""
     check_table(table)
     table.check_key(key)
-    ranked = sorted([Ranked(table, row, key) for row in table.rows])
-    return Table(table.columns, [each.row for each in ranked])
+    ranks = table.all_ranks(key)
+    rows = table.rows
+    found = list(rows)
+    for at, row in enumerate(rows):
+        found[_sorted_index(ranks, at)] = row
+    return Table(table.columns, found)
 
 
 def _steady_lengths(ranks):
@@ -63,7 +67,7 @@ def _steady_lengths(ranks):
 
 def _first_steady(ranks, lengths):
     """Return the first one of the greatest tuples of steady indices."""
-    chosen = [lengths.index(max(lengths))]
+    chosen = [_first_greatest(lengths)]
     for at in range(chosen[0] + 1, len(ranks)):
         last = chosen[-1]
         # Who takes the first index that still leads to the greatest number gets the first tuple.
@@ -72,12 +76,28 @@ def _first_steady(ranks, lengths):
     return tuple(chosen)
 
 
+def _first_greatest(lengths):
+    """Return the index of the first one of the greatest lengths."""
+    found = 0
+    for at, length in enumerate(lengths):
+        if length > lengths[found]:
+            found = at
+    return found
+
+
 def _rows_with(lengths, length):
     """Return the indices of the rows with a length; they are a fall.
 
     If the key did not turn round two of them, the earlier one would begin more steady rows than the later one.
     """
     return tuple([at for at, each in enumerate(lengths) if each == length])
+
+
+def _sorted_index(ranks, at):
+    """Return the index of a row among the sorted rows: how many others come before it."""
+    smaller = [rank for rank in ranks if rank < ranks[at]]
+    # Of the rows that are tied with it, those come before it that stood before it.
+    return len(smaller) + ranks[:at].count(ranks[at])
 
 
 def _is_place(ranks, rank, at):

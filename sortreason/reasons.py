@@ -64,7 +64,9 @@ def first_fault(table, key):
     """Return the first pair that a key ties or turns round, with the word for that, or None."""
     check_table(table)
     table.check_key(key)
-    for at, order in enumerate(_effect(table, key)):
+    rows = table.rows
+    for at in table.pairs:
+        order = table.compared(rows[at], rows[at + 1], key)
         if order == 0:
             return (at, TIED)
         if order == 1:
@@ -99,13 +101,30 @@ def reason(table):
 
 def _effects(table):
     """Return the effect of each candidate."""
-    return [_effect(table, Key(part)) for part in table.candidates()]
-
-
-def _effect(table, key):
-    """Return what a key does to each pair: -1, 0 or 1."""
+    names = list(table.columns)
     rows = table.rows
-    return tuple([table.compared(rows[at], rows[at + 1], key) for at in table.pairs])
+    found = []
+    for part in table.candidates():
+        at = names.index(part.measure.name)
+        found.append(_effect(part, [row[at] for row in rows]))
+    return found
+
+
+def _effect(part, cells):
+    """Return what a part does to each pair of rows that have these cells: -1, 0 or 1."""
+    # The cells are compared here, as `compared` would check the rows and the key for each pair anew.
+    measure = part.measure
+    found = [measure.of(cell) for cell in cells]
+    if part.down:
+        return tuple([_order(later, earlier) for earlier, later in zip(found, found[1:])])
+    return tuple([_order(earlier, later) for earlier, later in zip(found, found[1:])])
+
+
+def _order(one, other):
+    """Return -1 if a measure comes before another one upwards, 0 if they are the same, otherwise 1."""
+    if one == other:
+        return 0
+    return -1 if one < other else 1
 
 
 def _first_key(effects, number, pairs):

@@ -4,8 +4,6 @@ The effect of a candidate is a tuple with what it does to each pair of neighbour
 rows in order, 0 if it ties them, 1 if it turns them round.
 """
 
-from sortreason.checks import is_integer
-
 EACH = "each"
 TIED = "tied"
 TURNED = "turned"
@@ -19,11 +17,13 @@ def is_tree(value):
     level = [value]
     for _ in range(DEEPEST):
         total += len(level)
-        if total > MOST_NODES or not all([_is_node(node) for node in level]):
+        if total > MOST_NODES or not _are_pairs(level):
             return False
-        inner = [inside for word, inside in level if word == EACH]
+        inner = _inside_others(level)
+        if not all([isinstance(trees, tuple) for trees in inner]):
+            return False
         # Asked before they are listed, because a tuple that occurs often can hold very many trees.
-        if sum([len(trees) for trees in inner]) > MOST_NODES:
+        if sum(map(len, inner)) > MOST_NODES:
             return False
         level = [tree for trees in inner for tree in trees]
     return not level
@@ -36,7 +36,10 @@ def is_refutation(effects, number, pairs, tree):
         return word == TIED and inside in pairs
     if word != EACH or len(inside) != len(effects):
         return False
-    return all([_refutes_one(effects, at, number, pairs, inside[at]) for at in range(len(effects))])
+    for at in range(len(effects)):
+        if not _refutes_one(effects, at, number, pairs, inside[at]):
+            return False
+    return True
 
 
 def refutation(effects, number, pairs):
@@ -57,16 +60,19 @@ def turned(effect, pairs):
     return tuple([at for at in pairs if effect[at] == 1])
 
 
-def _is_node(value):
-    """Return whether a value is a tree, if the trees in it are."""
-    if not isinstance(value, tuple) or len(value) != 2:
-        return False
-    word, inside = value
-    if not isinstance(word, str):
-        return False
-    if word == EACH:
-        return isinstance(inside, tuple)
-    return word in (TIED, TURNED) and is_integer(inside)
+def _are_pairs(level):
+    """Return whether all values of a level are tuples of two items."""
+    return not [node for node in level if not isinstance(node, tuple) or len(node) != 2]
+
+
+def _inside_others(level):
+    """Return what is inside the pairs of a level that are no leaves, but None if their word is not "each"."""
+    leaves = (TIED, TURNED)
+    # Written out, as a call for each of very many pairs would take longer than all that is asked of it.
+    # A subclass of texts could be equal to each of the words, and then it counts as "each".
+    return [inside if isinstance(word, str) and word == EACH else None for word, inside in level
+            if not isinstance(word, str) or word == EACH or word not in leaves
+            or not isinstance(inside, int) or inside is True or inside is False]
 
 
 def _refutes_one(effects, at, number, pairs, tree):

@@ -353,6 +353,19 @@ class SortedRowsTest(unittest.TestCase):
         self.assertEqual(sorted_rows(table, YEAR).rows, up)
         self.assertEqual(sorted_rows(table, -YEAR).rows, up[3:] + up[:3])
 
+    def test_all_orders_of_few_numbers(self):
+        for many in (2, 3, 4):
+            for cells in itertools.product([-1, 0, 1, 2], repeat=many):
+                self.check(numbers(*cells), UP)
+                self.check(numbers(*cells), -UP)
+                self.check(numbers(*cells), Key(Part(Size("a"))))
+
+    def test_2_and_8_rows(self):
+        self.assertEqual(sorted_rows(numbers(2, 1), UP).rows, [(1,), (2,)])
+        self.assertEqual(sorted_rows(numbers(2, 1), -UP).rows, [(2,), (1,)])
+        self.assertEqual(sorted_rows(numbers(8, 7, 6, 5, 4, 3, 2, 1), UP).rows, [(at,) for at in range(1, 9)])
+        self.assertEqual(sorted_rows(numbers(*[4] * 8), UP).rows, [(4,)] * 8)
+
     def test_the_key_without_parts_keeps_all(self):
         for table, _, _ in cases(20):
             self.assertTrue(sorted_rows(table, Key()) == table)

@@ -1,5 +1,6 @@
 """Keys that explain, refutations and reasons: points [4] to [7], and the section on sortreason/reasons.py."""
 
+import copy
 import inspect
 import itertools
 import unittest
@@ -327,6 +328,250 @@ class RefutesTest(unittest.TestCase):
             self.assertIs(refutes(table, number, tuple(range(7)), tree), True)
             self.assertIs(refutes(table, number, (0, 5), tree), False)
             tree = ("each", (tree,) * 24)
+
+
+class Pair(tuple):
+    """A tuple of a class of its own."""
+
+
+class Word(str):
+    """A text of a class of its own."""
+
+
+class Sly(str):
+    """A text that is equal to all texts."""
+
+    def __eq__(self, other):
+        return isinstance(other, str)
+
+    def __hash__(self):
+        return 1
+
+
+class Number(int):
+    """An integer of a class of its own."""
+
+
+class ManyNodesTest(RefusalCase):
+    """Trees of 20000 nodes and of one more."""
+
+    LEAF, HOLLOW = ("turned", 0), ("each", ())
+
+    def accepted(self, tree, answer=False):
+        for number in range(4):
+            self.assertIs(refutes(both(), number, (0, 1), tree), answer)
+
+    def wrong(self, tree):
+        for number in (0, 1, 3):
+            self.refused(BadTree, refutes, both(), number, (0, 1), tree)
+
+    def nested(self, leaves, more):
+        """A tree of 199 trees of so many leaves each, and more leaves beside them."""
+        return ("each", (("each", leaves),) * 199 + more)
+
+    def chained(self, many, last):
+        """A tree 5 deep, of so many nodes, with one at the end of the deepest ones."""
+        tree = ("each", (self.LEAF,) * (many - 5) + (last,))
+        for _ in range(3):
+            tree = ("each", (tree,))
+        return tree
+
+    def with_one(self, leaves, wrong):
+        """The leaves with a wrong node in place of the first, a middle and the last one."""
+        for at in (0, 1, len(leaves) // 2, len(leaves) - 1):
+            yield leaves[:at] + (wrong,) + leaves[at + 1:]
+
+    def test_wide_trees(self):
+        for leaf in (("tied", 0), ("tied", -7), ("turned", 0), ("turned", 10 ** 30), self.HOLLOW):
+            self.accepted(("each", (leaf,) * 19999))
+            self.wrong(("each", (leaf,) * 20000))
+
+    def test_wide_trees_of_different_nodes(self):
+        nodes = tuple([(("tied", "turned")[at % 2], at - 9) if at % 3 else ("each", ()) for at in range(20000)])
+        self.accepted(("each", nodes[1:]))
+        self.accepted(("each", nodes[:-1]))
+        self.wrong(("each", nodes))
+
+    def test_nested_trees(self):
+        for leaf in (self.LEAF, self.HOLLOW):
+            self.accepted(self.nested((leaf,) * 99, (leaf,) * 99))
+            self.wrong(self.nested((leaf,) * 99, (leaf,) * 100))
+            self.wrong(self.nested((leaf,) * 100, (leaf,) * 99))
+
+    def test_nested_trees_of_tuples_that_occur_once(self):
+        inner = [("each", tuple([("tied", at) for at in range(99)])) for _ in range(199)]
+        self.accepted(("each", tuple(inner) + (self.LEAF,) * 99))
+        self.wrong(("each", tuple(inner) + (self.LEAF,) * 100))
+
+    def test_trees_5_deep(self):
+        for last in (self.LEAF, self.HOLLOW):
+            self.accepted(self.chained(20000, last))
+            self.wrong(self.chained(20001, last))
+        self.wrong(self.chained(19999, ("each", (self.LEAF,))))
+
+    def test_all_levels_count(self):
+        inner = ("each", (self.LEAF,) * 10)
+        tree = ("each", (("each", (("each", (inner,) * 30),) * 12),) * 5)
+        # 1 + 5 + 5 * 12 + 5 * 12 * 30 + 5 * 12 * 30 * 10 are 19866.
+        self.accepted(("each", tree[1] + (self.LEAF,) * 134))
+        self.wrong(("each", tree[1] + (self.LEAF,) * 135))
+
+    def wrong_nodes(self):
+        return [("tied", True), ("turned", False), ("each", 0), ("each", [self.LEAF]), ("each", ("tied", 0)), ("tied", ()),
+                ("turned", (self.LEAF,)), ("ties", 0), ("ties", ()), (0, 0), (None, ()), ("tied", None), ("tied",),
+                ("tied", 0, 0), (), ["tied", 0], "ab", None, True]
+
+    def test_a_wrong_node_among_many_leaves(self):
+        leaves = (self.LEAF, ("tied", 1)) * 9999
+        for wrong in self.wrong_nodes() + strange_values():
+            for nodes in self.with_one(leaves, wrong):
+                self.refused(BadTree, refutes, both(), 1, (0, 1), ("each", nodes))
+
+    def test_a_wrong_node_among_many_trees_that_hold_none(self):
+        for wrong in self.wrong_nodes():
+            for nodes in self.with_one((self.HOLLOW,) * 19999, wrong):
+                self.refused(BadTree, refutes, both(), 1, (0, 1), ("each", nodes))
+
+    def test_a_wrong_node_in_one_of_many_trees(self):
+        inner = (("each", (self.LEAF,) * 99),) * 199
+        for wrong in self.wrong_nodes():
+            for leaves in self.with_one((self.LEAF,) * 99, wrong):
+                for nodes in self.with_one(inner, ("each", leaves)):
+                    self.refused(BadTree, refutes, both(), 1, (0, 1), ("each", nodes))
+
+    def test_a_wrong_node_that_occurs_often(self):
+        for wrong in self.wrong_nodes():
+            self.wrong(("each", (wrong,) * 19999))
+            self.wrong(self.nested((self.LEAF,) * 98 + (wrong,), ()))
+            self.wrong(self.chained(20000, wrong))
+
+    def test_truth_values_beside_equal_integers(self):
+        for number, truth in ((0, False), (1, True)):
+            for word in ("tied", "turned"):
+                leaves = ((word, number),) * 9999
+                self.accepted(("each", leaves + leaves))
+                self.wrong(("each", leaves + ((word, truth),) + leaves))
+                self.wrong(("each", ((word, truth),) + leaves))
+
+    def test_subclasses_of_tuples_texts_and_integers(self):
+        leaves = [Pair(("tied", 0)), (Word("tied"), 0), ("turned", Number(1)), Pair((Word("turned"), Number(10 ** 30))),
+                  ("each", Pair()), (Word("each"), ()), Pair((Word("each"), Pair([("tied", Number(0))])))]
+        for leaf in leaves[:-1]:
+            self.accepted(("each", (leaf,) * 19999))
+            self.wrong(("each", (leaf,) * 20000))
+            self.accepted(Pair(("each", Pair((self.LEAF,) * 9000 + (leaf,) + (self.LEAF,) * 9000))))
+        self.accepted(("each", tuple(leaves)))
+        self.wrong(("each", (Pair(("tied", 0, 0)),)))
+        self.wrong(("each", (Pair((Word("ties"), 0)),)))
+        self.wrong(("each", (Pair(("tied", True)),)))
+
+    def test_a_text_that_is_equal_to_all_words(self):
+        self.accepted((Sly("tied"), ()))
+        self.accepted(("each", ((Sly("tied"), (self.LEAF,)),) * 9999))
+        self.wrong((Sly("tied"), 0))
+        self.wrong(("each", (self.LEAF,) * 9999 + ((Sly("tied"), 0),)))
+
+    def test_subclasses_in_a_refutation(self):
+        table = Table(NUMBERS, [(1,), (1,)])
+        tree = Pair((Word("tied"), Number(0)))
+        for number in range(4):
+            for other in range(4):
+                self.assertIs(refutes(table, other, (0,), tree), other == number)
+            tree = Pair((Word("each"), Pair([tree] * 8)))
+
+
+class AskedOftenTest(unittest.TestCase):
+    """What was asked before changes no answer and none of the arguments."""
+
+    def questions(self, table, seed):
+        """Numbers, pairs and trees for a table, with what must be told."""
+        dice, effects, everything = Dice(seed), effects_of(table), tuple(table.pairs)
+        found = reason(table)
+        most = len(found.key) - 1 if isinstance(found, Reason) else 3
+        trees = [("tied", 0), ("turned", 0), ("each", ()), ("each", (("tied", 0),) * len(effects)), found.tree]
+        if most < 3:
+            trees += list(itertools.islice(changed(found.tree), 40))
+        asked = []
+        for tree in trees:
+            for number in {0, 1, most}:
+                for pairs in (everything, tuple(at for at in everything if dice.below(2)), ()):
+                    asked.append((number, pairs, tree, is_refuted(effects, number, pairs, tree)))
+        return asked
+
+    def test_a_table_that_is_asked_twice(self):
+        told = []
+        for seed, table in enumerate(tables(30, 3, 6)):
+            asked = self.questions(table, seed)
+            for number, pairs, tree, expected in asked + asked[::-1]:
+                self.assertIs(refutes(table, number, pairs, tree), expected)
+                self.assertIs(refutes(table, number, pairs, tree), expected)
+                told.append(expected)
+        self.assertGreater(told.count(True), 30)
+
+    def test_tables_that_are_asked_by_turns(self):
+        for seed, (one, other) in enumerate(itertools.combinations(tables(9, 2, 5), 2)):
+            # Each table is asked about the trees of the other one, too.
+            asked = self.questions(one, seed)[::3] + self.questions(other, seed)[::3]
+            for number, pairs, tree, _ in asked:
+                for table in (one, other, one):
+                    if all(at in table.pairs for at in pairs):
+                        expected = is_refuted(effects_of(table), number, pairs, tree)
+                        self.assertIs(refutes(table, number, pairs, tree), expected)
+
+    def test_tables_that_differ_in_one_cell(self):
+        # What is told depends on the rows and their order, not on the columns alone.
+        made = [Table(NUMBERS, [(1,), (cell,)]) for cell in (0, 1, 2)]
+        for _ in range(2):
+            for table in made + made[::-1]:
+                for tree in [("each", (one, other) * 4) for one in (("tied", 0), ("turned", 0))
+                             for other in (("tied", 0), ("turned", 0))]:
+                    self.assertIs(refutes(table, 1, (0,), tree), is_refuted(effects_of(table), 1, (0,), tree))
+
+    def test_equal_tables_answer_the_same(self):
+        for seed, table in enumerate(tables(10, 3, 5)):
+            for number, pairs, tree, expected in self.questions(table, seed)[::4]:
+                self.assertIs(refutes(Table(table.columns, table.rows), number, pairs, tree), expected)
+
+    def test_a_refused_question_changes_no_answer(self):
+        table = both()
+        tree = ("each", (("turned", 0),) * 14)
+        expected = is_refuted(effects_of(table), 1, (0, 1), tree)
+        for number, pairs, wrong in [(4, (0,), tree), (1, (5,), tree), (1, (0,), ("tied", True)), (1, (0,), None)]:
+            with self.assertRaises(ValueError):
+                refutes(table, number, pairs, wrong)
+            self.assertIs(refutes(table, 1, (0, 1), tree), expected)
+            self.assertIs(refutes(table, 0, (0, 1), ("tied", 1)), True)
+
+    def test_nothing_is_changed(self):
+        for seed, table in enumerate(tables(10, 3, 5)):
+            parts, held = list(table.candidates()), copy.deepcopy(vars(table))
+            columns, rows = list(table.columns.items()), table.rows
+            for number, pairs, tree, _ in self.questions(table, seed):
+                same = copy.deepcopy(tree)
+                refutes(table, number, pairs, tree)
+                self.assertEqual(tree, same)
+            self.assertEqual(vars(table), held)
+            self.assertEqual([list(table.columns.items()), table.rows, list(table.candidates())], [columns, rows, parts])
+
+    def test_each_candidate_for_each_pair(self):
+        """What candidates do to pairs, of numbers and words of all lengths."""
+        columns = {"a": "numbers", "b": "words"}
+        rows = [(-99, "zzzzzzzz"), (99, "zzzzzzzz"), (99, "zzzzzzz"), (-4, "a"), (-3, "ab"), (-3, "aaaaaaab"),
+                (0, "aaaaaaac"), (-99, "aaaaaaac")]
+        for chosen in (rows, rows[::-1]):
+            table = Table(columns, chosen)
+            effects, pairs = effects_of(table), tuple(table.pairs)
+            right = [self.answer(done) for done in effects]
+            self.assertIs(refutes(table, 1, pairs, ("each", tuple(right))), True)
+            for at, done in enumerate(effects):
+                for word, value in (("tied", 0), ("turned", 1)):
+                    for pair in pairs:
+                        trees = right[:at] + [(word, pair)] + right[at + 1:]
+                        self.assertIs(refutes(table, 1, pairs, ("each", tuple(trees))), done[pair] == value)
+
+    def answer(self, done):
+        """A tree that refutes the key of a candidate alone."""
+        return ("turned", done.index(1)) if 1 in done else ("tied", done.index(0))
 
 
 class RefusalTest(RefusalCase):
